@@ -1,0 +1,1 @@
+"""Ships told by radio. What is called stands in shipradio.ships."""
